@@ -1,0 +1,1 @@
+"""Handrack: a rack that holds the tools used last."""
